@@ -1,0 +1,1 @@
+"""A keeper of copies that forgets what no rule, hold or later copy needs."""
