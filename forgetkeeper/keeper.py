@@ -1,6 +1,6 @@
 """The keeper of copies, and answers(calls), which asks a new one call by call."""
 
-from forgetkeeper.staying import numbers_staying
+from forgetkeeper.staying import copies_wanted, numbers_needed, numbers_staying, rules_keeping
 
 BAD_VALUE = -22
 NOT_LATER = -13
@@ -19,9 +19,13 @@ BEGIN = 0
 ADD = 1
 HOLD = 2
 FORGET = 3
+BACK = 4
+WHY = 5
+LIST = 6
+STATE = 7
 
 # By a call's number, how many numbers it has with this one; of begin those ahead of its rules.
-WIDTHS = (3, 4, 3, 1)
+WIDTHS = (3, 4, 3, 1, 2, 2, 1, 1)
 
 
 class Copy:
@@ -90,6 +94,38 @@ class Keeper:
         self.copies = [one for one in self.copies if one.number in staying]
         return [len(gone), size_together(gone)]
 
+    def back(self, number):
+        one = copy_numbered(self.copies, number)
+        if one is None:
+            return [NO_SUCH_COPY]
+        needed = numbers_needed(self.copies, [one])
+        # Each builds upon an earlier one, so in the order in which they were made they are the chain.
+        chain = [other.number for other in self.copies if other.number in needed]
+        return [len(chain)] + chain
+
+    def why(self, number):
+        one = copy_numbered(self.copies, number)
+        if one is None:
+            return [NO_SUCH_COPY]
+        wanted = copies_wanted(self.copies, self.rules)
+        others = [other for other in wanted if other.number != number]
+        return [
+            one_if(number in numbers_needed(self.copies, wanted)),
+            rules_keeping(one, self.copies, self.rules),
+            one_if(one.held),
+            one_if(number == self.copies[-1].number),
+            one_if(number in numbers_needed(self.copies, others)),
+        ]
+
+    def list_copies(self):
+        told = [len(self.copies)]
+        for one in self.copies:
+            told.extend([one.number, one.time, one.upon])
+        return told
+
+    def state(self):
+        return [len(self.copies), size_together(self.copies), self.next_number]
+
 
 def rules_fit(rules):
     if len(rules) > MOST_RULES:
@@ -106,6 +142,10 @@ def copy_numbered(copies, number):
 
 def size_together(copies):
     return sum([one.size for one in copies])
+
+
+def one_if(holds):
+    return 1 if holds else 0
 
 
 def pairs_of(numbers):
@@ -126,7 +166,15 @@ def answer(keeper, call):
         return [keeper.add(call[1], call[2], call[3])]
     if call[0] == HOLD:
         return [keeper.hold(call[1], call[2])]
-    return keeper.forget()
+    if call[0] == FORGET:
+        return keeper.forget()
+    if call[0] == BACK:
+        return keeper.back(call[1])
+    if call[0] == WHY:
+        return keeper.why(call[1])
+    if call[0] == LIST:
+        return keeper.list_copies()
+    return keeper.state()
 
 
 def answers(calls):

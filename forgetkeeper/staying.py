@@ -1,4 +1,4 @@
-"""Which copies stay: those that rules keep, those wanted, and what these need.
+"""Which copies stay and why: those that rules keep, those wanted, and what these need.
 
 Copies come as a list in the order in which they were made, so their times rise.
 """
@@ -30,6 +30,15 @@ def times_kept_by_some(rules, times):
         for time in times_kept(rule, times):
             kept[time] = True
     return kept
+
+
+def rules_keeping(one, copies, rules):
+    times = [other.time for other in copies]
+    bits = 0
+    for place, rule in enumerate(rules):
+        if one.time in times_kept(rule, times):
+            bits = bits | (1 << place)
+    return bits
 
 
 def copies_wanted(copies, rules):

@@ -3,6 +3,8 @@
 from forgetkeeper.keeper import answers
 
 FORGET = [3]
+LIST = [6]
+STATE = [7]
 
 
 def begin(room, *rules):
@@ -16,6 +18,14 @@ def add(time, upon=0, size=1):
 
 def hold(k, on=1):
     return [2, k, on]
+
+
+def back(k):
+    return [4, k]
+
+
+def why(k):
+    return [5, k]
 
 
 def parted(told):
@@ -50,6 +60,12 @@ def there(calls, many):
     probes = [hold(k) for k in range(many)]
     told = ask(*calls, *probes)[len(calls):]
     return [k for k in range(many) if told[k] == 0]
+
+
+def looks(many):
+    """Every call that only looks, at each of the numbers below many and at some that never were."""
+    numbers = list(range(many)) + [many, many + 64, 2 ** 32 - 1]
+    return [LIST, STATE] + [call for k in numbers for call in (back(k), why(k))]
 
 
 def difference(told, asked):
